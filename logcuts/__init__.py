@@ -1,0 +1,1 @@
+"""A stem cut into logs."""
