@@ -3,13 +3,18 @@
 CALL_STEM = 0
 CALL_KIND = 1
 CALL_ORDER = 2
+CALL_BEST = 3
+CALL_CHECK = 4
+CALL_MORE = 5
 
-# By a call's number: how many whole numbers stand behind it. A stem has a row there instead.
-WHOLE_NUMBERS = {1: 5, 2: 2, 3: 0}
+# These calls have a row behind them, and of the other ones so many whole numbers stand behind each.
+CALLS_WITH_A_ROW = (0, 4)
+WHOLE_NUMBERS = {1: 5, 2: 2, 3: 0, 5: 1, 6: 0}
 
 NOT_AS_TOLD = -1
 NO_SUCH_KIND = -2
 NO_MORE_KINDS = -5
+NO_CUTTING = -6
 
 MOST_PARTS = 40
 MOST_THICKNESS = 100
@@ -133,19 +138,25 @@ def may_be_cut(parts, kind, place):
     return all([part.grade <= kind.grade for part in parts[place:end]])
 
 
-def log_worth(parts, kind, place):
-    """Say what a log of the kind from the place on is worth; it may be cut there."""
-    thickness = parts[place + kind.length - 1].thickness
-    return kind.price * kind.length * thickness * thickness
+def cut_log(parts, kinds, number, place):
+    """Make the log of the kind from the place on; it may be cut there."""
+    kind = kinds[number]
+    end = place + kind.length
+    thickness = parts[end - 1].thickness
+    return Log(place, end, number, kind.price * kind.length * thickness * thickness)
+
+
+def count_waste(parts, logs):
+    """Say how many parts are in none of a cutting's logs."""
+    return len(parts) - sum([log.end - log.place for log in logs])
 
 
 def logs_from(parts, kinds, place):
     """List the logs that may be cut from the place on, the highest kind first."""
     logs = []
     for number in range(len(kinds) - 1, -1, -1):
-        kind = kinds[number]
-        if may_be_cut(parts, kind, place):
-            logs.append(Log(place, place + kind.length, number, log_worth(parts, kind, place)))
+        if may_be_cut(parts, kinds[number], place):
+            logs.append(cut_log(parts, kinds, number, place))
     return logs
 
 
@@ -214,10 +225,59 @@ def find_best(yard):
     table = all_outlooks(yard.parts, yard.kinds, steps)
     whole = table[0][-1]
     logs = earliest_logs(table, steps)
-    waste = len(yard.parts) - sum([log.end - log.place for log in logs])
-    answer = [whole.worth, 2, whole.ways, waste]
+    answer = [whole.worth, 2, whole.ways, count_waste(yard.parts, logs)]
     for log in logs:
         answer.extend([2, log.place, log.number])
+    return answer
+
+
+def cutting_of(yard, numbers):
+    """Make the logs whose places and kinds the numbers are, or None if they are no cutting."""
+    logs = []
+    left = list(yard.ordered)
+    free = 0
+    for at in range(0, len(numbers), 2):
+        place = numbers[at]
+        number = numbers[at + 1]
+        if number >= len(yard.kinds) or left[number] == 0 or place < free:
+            return None
+        if not may_be_cut(yard.parts, yard.kinds[number], place):
+            return None
+        log = cut_log(yard.parts, yard.kinds, number, place)
+        logs.append(log)
+        left[number] -= 1
+        free = log.end
+    return logs
+
+
+def check_logs(yard, numbers):
+    """Answer the call check; numbers has each log's place and kind."""
+    logs = cutting_of(yard, numbers)
+    if logs is None:
+        return [NO_CUTTING]
+    return [sum([log.worth for log in logs]), 1, count_waste(yard.parts, logs)]
+
+
+def find_more(yard, number):
+    """Answer the call more."""
+    if number >= len(yard.kinds):
+        return [NO_SUCH_KIND]
+    ordered = list(yard.ordered)
+    ordered[number] += 1
+    steps = stock_steps(ordered)
+    table = all_outlooks(yard.parts, yard.kinds, steps)
+    # One table does for both: what is ordered now is the fullest stock with one log of the kind taken.
+    fullest = steps[-1] - 1
+    return [table[0][fullest].worth - table[0][fullest - steps[number]].worth]
+
+
+def list_places(yard):
+    """Answer the call places."""
+    answer = [len(yard.parts)]
+    for kind in yard.kinds:
+        places = [place for place in range(len(yard.parts)) if may_be_cut(yard.parts, kind, place)]
+        answer.append(len(places))
+        answer.extend(places)
     return answer
 
 
@@ -229,7 +289,13 @@ def answer_call(yard, call, numbers):
         return add_kind(yard, numbers)
     if call == CALL_ORDER:
         return change_order(yard, numbers[0], numbers[1])
-    return find_best(yard)
+    if call == CALL_BEST:
+        return find_best(yard)
+    if call == CALL_CHECK:
+        return check_logs(yard, numbers)
+    if call == CALL_MORE:
+        return find_more(yard, numbers[0])
+    return list_places(yard)
 
 
 def answers(calls):
@@ -239,7 +305,7 @@ def answers(calls):
     at = 0
     while at < len(calls):
         call = calls[at]
-        if call == CALL_STEM:
+        if call in CALLS_WITH_A_ROW:
             start = at + 2
             end = start + calls[at + 1]
         else:

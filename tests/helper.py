@@ -1,11 +1,23 @@
 """What the tests share: calls written as lists, answers taken apart, and a plain search."""
 
+import pathlib
+import subprocess
+import sys
+
 from logcuts.yard import answers
+
+TOP_FOLDER = pathlib.Path(__file__).resolve().parent.parent
 
 STEM = 0
 KIND = 1
 ORDER = 2
 BEST = 3
+CHECK = 4
+MORE = 5
+PLACES = 6
+
+# The highest number that may be handed in.
+TOP = 4294967295
 
 
 def stem(parts):
@@ -26,6 +38,20 @@ def best():
     return [BEST]
 
 
+def check(logs):
+    """The call check; logs are pairs of a place and a kind."""
+    numbers = [number for log in logs for number in log]
+    return [CHECK, len(numbers)] + numbers
+
+
+def more(number):
+    return [MORE, number]
+
+
+def places():
+    return [PLACES]
+
+
 def written(calls):
     """The calls one behind another, as they are handed in."""
     return [number for call in calls for number in call]
@@ -34,6 +60,12 @@ def written(calls):
 def run(*calls):
     """The answer to each call, each a list of whole numbers."""
     return split(answers(written(calls)))
+
+
+def run_in_good_time(*calls):
+    """Run the calls apart, so that a search that does not end is a failure and not a wait."""
+    text = f"from logcuts.yard import answers; answers({written(calls)})"
+    subprocess.run([sys.executable, "-c", text], cwd=TOP_FOLDER, check=True, timeout=60)
 
 
 def split(given_back):
@@ -53,6 +85,14 @@ def best_answer(worth, ways, waste, logs):
     answer = [worth, 2, ways, waste]
     for place, number in logs:
         answer += [2, place, number]
+    return answer
+
+
+def places_answer(many, *lists):
+    """What places answers, as one list."""
+    answer = [many]
+    for found in lists:
+        answer += [len(found)] + list(found)
     return answer
 
 
@@ -94,6 +134,39 @@ def searched_best(parts, kinds):
     earliest = min(equals, key=lambda logs: logs + [(1000, 0)])
     waste = len(parts) - sum(kinds[number][0] for place, number in earliest)
     return best_answer(most, len(equals), waste, earliest)
+
+
+def searched_more(parts, kinds, number):
+    """What more must answer, found by going through all cuttings twice."""
+    length, thickness, grade, price, ordered = kinds[number]
+    with_one_more = list(kinds)
+    with_one_more[number] = (length, thickness, grade, price, ordered + 1)
+    return [searched_best(parts, with_one_more)[0] - searched_best(parts, kinds)[0]]
+
+
+def small_case(numbers):
+    """A stem of up to 9 parts and up to 3 kinds, of few different numbers so that worths are often equal."""
+    thickness = 1 + numbers.below(4)
+    worst = numbers.below(3)
+    parts = []
+    for place in range(numbers.below(10)):
+        parts.append((thickness, numbers.below(worst + 1)))
+        thickness = max(1, thickness - numbers.below(3) // 2)
+    kinds = []
+    for number in range(numbers.below(4)):
+        kinds.append((
+            1 + numbers.below(3), numbers.below(4), numbers.below(3), numbers.below(3), numbers.below(5)))
+    return parts, kinds
+
+
+def set_up(parts, kinds):
+    """The calls that bring a stem and its kinds."""
+    return [stem(parts)] + [kind(*numbers) for numbers in kinds]
+
+
+# A long stem and three kinds that fit in many places, of which as many as may be are ordered.
+LONG_PARTS = [(100 - place // 2, place % 3) for place in range(40)]
+LONG_KINDS = [(1, 0, 9, 7, 4), (2, 10, 9, 7, 4), (3, 20, 1, 9, 4)]
 
 
 class Numbers:

@@ -1,26 +1,13 @@
 import math
-import pathlib
-import subprocess
-import sys
 import unittest
 
-from helper import Numbers, all_cuttings, best, best_answer, kind, run, searched_best, stem
-
-TOP_FOLDER = pathlib.Path(__file__).resolve().parent.parent
-
-# Run apart, so that a search that does not end is a failure and not a wait.
-LONG_LINE = """
-from logcuts.yard import answers
-parts = []
-for at in range(40):
-    parts += [100 - at // 2, at % 3]
-kinds = [1, 1, 0, 9, 7, 4, 1, 2, 10, 9, 7, 4, 1, 3, 20, 1, 9, 4]
-answers([0, 80] + parts + kinds + [3] * 36)
-"""
+from helper import (
+    LONG_KINDS, LONG_PARTS, Numbers, all_cuttings, best, best_answer, kind, run, run_in_good_time, searched_best,
+    set_up, small_case)
 
 
 def best_of(parts, *kinds):
-    return run(stem(parts), *[kind(*numbers) for numbers in kinds], best())[-1]
+    return run(*set_up(parts, kinds), best())[-1]
 
 
 class BestWithoutLogsTest(unittest.TestCase):
@@ -152,7 +139,7 @@ class EarliestTest(unittest.TestCase):
 
 class LongStemTest(unittest.TestCase):
     def test_three_kinds_of_four_in_good_time(self):
-        subprocess.run([sys.executable, "-c", LONG_LINE], cwd=TOP_FOLDER, check=True, timeout=60)
+        run_in_good_time(*set_up(LONG_PARTS, LONG_KINDS), *[best()] * 36)
 
     def test_each_way_of_setting_out_twelve_logs(self):
         ways = math.comb(40, 12) * math.factorial(12) // math.factorial(4) ** 3
@@ -193,21 +180,6 @@ class PlainSearchTest(unittest.TestCase):
         self.assertEqual(
             sorted(cuttings),
             [[], [(0, 0)], [(0, 0), (2, 1)], [(0, 1)], [(0, 1), (1, 0)], [(1, 0)], [(1, 1)], [(2, 1)]])
-
-
-def small_case(numbers):
-    """A stem of up to 9 parts and up to 3 kinds, of few different numbers so that worths are often equal."""
-    thickness = 1 + numbers.below(4)
-    worst = numbers.below(3)
-    parts = []
-    for place in range(numbers.below(10)):
-        parts.append((thickness, numbers.below(worst + 1)))
-        thickness = max(1, thickness - numbers.below(3) // 2)
-    kinds = []
-    for number in range(numbers.below(4)):
-        kinds.append((
-            1 + numbers.below(3), numbers.below(4), numbers.below(3), numbers.below(3), numbers.below(5)))
-    return parts, kinds
 
 
 if __name__ == "__main__":

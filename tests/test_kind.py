@@ -1,8 +1,7 @@
 import unittest
 
-from helper import best, best_answer, kind, order, run, stem
+from helper import TOP, best, best_answer, kind, order, run, stem
 
-TOP = 4294967295
 ORDINARY = (5, 20, 3, 100, 2)
 # Of each number of a kind: its least and its most.
 EDGES = ((1, 40), (0, 100), (0, 9), (0, 1000), (0, 4))

@@ -1,8 +1,7 @@
 import unittest
 
-from helper import best, best_answer, kind, order, run, stem
+from helper import TOP, best, best_answer, kind, order, run, stem
 
-TOP = 4294967295
 PARTS = [(10, 0)] * 5
 
 

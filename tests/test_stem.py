@@ -1,8 +1,6 @@
 import unittest
 
-from helper import best, best_answer, kind, order, run, stem
-
-TOP = 4294967295
+from helper import TOP, best, best_answer, kind, order, run, stem
 
 
 class StemTest(unittest.TestCase):
